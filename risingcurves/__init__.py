@@ -1,0 +1,1 @@
+"""Calibration: rising curves of least squares, told exactly in fractions."""
