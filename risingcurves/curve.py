@@ -24,6 +24,7 @@ class Curve:
     def __init__(self, readings):
         self.singles = single_blocks(readings)
         self.doses = [single.first for single in self.singles]
+        self.whole_doses = [whole(dose) for dose in self.doses]
         self.blocks = pooled(self.singles)
         self.heights = heights_of(self.blocks)
 

@@ -42,3 +42,8 @@ def over(one, other):
 
 def less(one, other):
     return one.top * other.bottom < other.top * one.bottom
+
+
+def size_of(one):
+    """The fraction as a number from 0 on."""
+    return Fraction(abs(one.top), one.bottom)

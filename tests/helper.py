@@ -4,7 +4,8 @@ from fractions import Fraction
 
 from risingcurves.desk import answers
 
-LOT, POINT, UNPOINT, POINTS, FIT, BLOCKS, SUMS, SQUARES, TRIAL, VALUE, DOSE, STEP, TRUTH = range(13)
+(LOT, POINT, UNPOINT, POINTS, FIT, BLOCKS, SUMS, SQUARES, TRIAL, VALUE, DOSE, STEP, TRUTH, CLASH, RANGE, CONTROL, CLEAR,
+ SHIFT, GAP, TICK, READ, SHOWN, CHANGED, TURN, LOTS) = range(25)
 
 LEAST_WORD = -2 ** 63
 MOST_WORD = 2 ** 63 - 1
@@ -30,10 +31,13 @@ def split(numbers):
     return parts
 
 
+def flat(calls):
+    return [number for call in calls for number in call]
+
+
 def ask(calls):
     """The answers, one list for each call."""
-    flat = [number for call in calls for number in call]
-    parts = split(answers(flat))
+    parts = split(answers(flat(calls)))
     assert len(parts) == len(calls), (calls, parts)
     return parts
 
@@ -41,6 +45,11 @@ def ask(calls):
 def stocked(readings, n=0, until=100):
     """The calls that make a lot with these readings."""
     return [[LOT, n, until]] + [[POINT, n] + list(reading) for reading in readings]
+
+
+def controlled(controls, n=0):
+    """The calls that give a lot these controls."""
+    return [[CONTROL, n] + list(control) for control in controls]
 
 
 def ask_of(readings, call):

@@ -41,6 +41,16 @@ def trees():
     return [(path.name, ast.parse(path.read_text())) for path in files()]
 
 
+def parents(tree):
+    """For each node the one that it stands in."""
+    return {child: node for node in ast.walk(tree) for child in ast.iter_child_nodes(node)}
+
+
+def called(node):
+    """The name that is called, if the node is a call of a plain name."""
+    return node.func.id if isinstance(node, ast.Call) and isinstance(node.func, ast.Name) else None
+
+
 def nodes(kind):
     return [(name, node) for name, tree in trees() for node in ast.walk(tree) if isinstance(node, kind)]
 
@@ -119,6 +129,120 @@ class Form(unittest.TestCase):
             self.assertEqual(own & set(dir(kind)) - {"count", "index"}, set(), kind)
         read = {node.attr for name, node in nodes(ast.Attribute)}
         self.assertEqual(read - own - METHODS, set())
+
+    def test_methods_are_called_where_they_stand(self):
+        own = {node.attr for name, node in nodes(ast.Attribute) if isinstance(node.ctx, ast.Store)}
+        for name, tree in trees():
+            above = parents(tree)
+            for node in ast.walk(tree):
+                if isinstance(node, ast.Attribute) and node.attr not in own:
+                    self.assertIsInstance(above[node], ast.Call, (name, node.lineno))
+                    self.assertIs(above[node].func, node, (name, node.lineno))
+        methods = {part.name for name, node in nodes(ast.ClassDef) for part in node.body
+                   if isinstance(part, ast.FunctionDef)}
+        self.assertEqual(methods & own, set())
+
+    def test_the_top_of_a_file(self):
+        for name, tree in trees():
+            bound = []
+            for place, part in enumerate(tree.body):
+                self.assertIsInstance(part, (ast.Expr, ast.ImportFrom, ast.FunctionDef, ast.ClassDef, ast.Assign), name)
+                if isinstance(part, ast.Expr):
+                    self.assertEqual([place, type(part.value)], [0, ast.Constant], name)
+                elif isinstance(part, ast.ImportFrom):
+                    bound += [alias.name for alias in part.names]
+                elif isinstance(part, ast.Assign):
+                    self.check_plain(part.value, bound, tree, name)
+                    bound.append(part.targets[0].id)
+                else:
+                    bound.append(part.name)
+            self.assertEqual(len(bound), len(set(bound)), name)
+
+    def check_plain(self, value, bound, tree, name):
+        """A plain value; functions in it are defined above it in the same file; no list or dict within another."""
+        defined = {part.name for part in tree.body if isinstance(part, ast.FunctionDef)}
+        for node in ast.walk(value):
+            if isinstance(node, ast.Name):
+                self.assertIn(node.id, set(bound) & defined, name)
+            elif isinstance(node, ast.expr):
+                self.assertIsInstance(node, (ast.Constant, ast.Tuple, ast.List, ast.Dict, ast.UnaryOp), name)
+            if node is not value:
+                self.assertNotIsInstance(node, (ast.List, ast.Dict), name)
+
+    def test_lists_and_dicts_of_the_top_are_only_read(self):
+        for name, tree in trees():
+            above = parents(tree)
+            kept = {part.targets[0].id for part in tree.body
+                    if isinstance(part, ast.Assign) and isinstance(part.value, (ast.List, ast.Dict))}
+            for node in ast.walk(tree):
+                if isinstance(node, ast.Name) and node.id in kept and isinstance(node.ctx, ast.Load):
+                    self.assertIsInstance(above[node], ast.Subscript, (name, node.lineno))
+                    self.assertIsInstance(above[node].ctx, ast.Load, (name, node.lineno))
+
+    def test_no_two_files_draw_from_one_another(self):
+        drawn = {}
+        for name, tree in trees():
+            drawn[name] = {node.module.split(".")[1] + ".py" for node in ast.walk(tree)
+                           if isinstance(node, ast.ImportFrom)}
+        while drawn:
+            free = [name for name in drawn if not drawn[name] & set(drawn)]
+            self.assertNotEqual(free, [], sorted(drawn))
+            for name in free:
+                drawn.pop(name)
+
+    def test_all_that_is_imported_or_defined_is_used(self):
+        used = {node.id for name, node in nodes(ast.Name)}
+        for name, tree in trees():
+            here = {node.id for node in ast.walk(tree) if isinstance(node, ast.Name)}
+            for node in ast.walk(tree):
+                if isinstance(node, ast.ImportFrom):
+                    self.assertEqual([alias.name for alias in node.names if alias.name not in here], [], name)
+                    self.assertEqual([alias.asname for alias in node.names if alias.asname], [], name)
+            for part in tree.body:
+                if isinstance(part, (ast.FunctionDef, ast.ClassDef)) and part.name != "answers":
+                    self.assertIn(part.name, used, name)
+
+    def test_is_stands_beside_none_true_and_false(self):
+        for name, node in nodes(ast.Compare):
+            for operator, right in zip(node.ops, node.comparators):
+                if isinstance(operator, (ast.Is, ast.IsNot)):
+                    self.assertIsInstance(right, ast.Constant, (name, node.lineno))
+                    self.assertIn(right.value, (None, True, False), (name, node.lineno))
+
+    def test_what_is_walked_at_once_and_sets(self):
+        takers = ("list", "tuple", "dict", "sorted", "sum", "any", "all", "enumerate", "zip")
+        for name, tree in trees():
+            above = parents(tree)
+            for node in ast.walk(tree):
+                holder = above.get(node)
+                if called(node) in ("zip", "enumerate", "reversed", "range"):
+                    walked = isinstance(holder, (ast.For, ast.comprehension)) and holder.iter is node
+                    self.assertTrue(walked or called(holder) in takers, (name, node.lineno))
+                if called(node) in ("set", "frozenset"):
+                    self.assertTrue(isinstance(holder, ast.Compare) or called(holder) in ("sorted", "len"), name)
+
+    def test_classes_are_called_or_stand_under(self):
+        classes = {node.name for name, node in nodes(ast.ClassDef)}
+        for name, tree in trees():
+            above = parents(tree)
+            for node in ast.walk(tree):
+                if isinstance(node, ast.Name) and node.id in classes:
+                    self.assertEqual(called(above[node]), node.id, (name, node.lineno))
+
+    def test_comprehensions_powers_and_texts(self):
+        for name, node in nodes(ast.ListComp):
+            self.assertEqual(len(node.generators), 1, (name, node.lineno))
+            self.assertLessEqual(len(node.generators[0].ifs), 1, (name, node.lineno))
+        for name, node in nodes(ast.BinOp):
+            if isinstance(node.op, ast.Pow):
+                self.assertIsInstance(node.right, ast.Constant, (name, node.lineno))
+                self.assertIn(node.right.value, range(65), (name, node.lineno))
+        for name, node in nodes(ast.Constant):
+            if isinstance(node.value, str):
+                self.assertNotIn("%", node.value, (name, node.lineno))
+        for name, node in nodes(ast.Call):
+            keywords = {keyword.arg for keyword in node.keywords}
+            self.assertLessEqual(keywords, {"key", "default", "reverse", "start", "strict"}, (name, node.lineno))
 
 
 if __name__ == "__main__":

@@ -4,18 +4,15 @@ import unittest
 
 from risingcurves.desk import answers
 from tests.helper import (
-    BLOCKS, DOSE, FIT, LOT, POINT, POINTS, READINGS, SQUARES, STEP, SUMS, TRIAL, TRUTH, UNPOINT, VALUE,
-    stocked, trial)
-
-
-def flat(calls):
-    return [number for call in calls for number in call]
-
+    BLOCKS, CHANGED, CLASH, CLEAR, CONTROL, DOSE, FIT, GAP, LOT, LOTS, POINT, POINTS, RANGE, READ, READINGS, SHIFT,
+    SHOWN, SQUARES, STEP, SUMS, TICK, TRIAL, TRUTH, TURN, UNPOINT, VALUE, flat, split, stocked, trial)
 
 ALL_CALLS = stocked(READINGS, 2) + [
     [POINTS, 2], [FIT, 2], [BLOCKS, 2], [SUMS, 2], [SQUARES, 2], trial(2, [1, 2, 3, 4]), trial(2, []),
-    [VALUE, 2, 15, 1], [DOSE, 2, 5, 1], [STEP, 2, 11], [TRUTH, 2, 11], [UNPOINT, 2, 0], [FIT, 0], [LOT, 2, 0],
-    [FIT, 2]]
+    [VALUE, 2, 15, 1], [DOSE, 2, 5, 1], [STEP, 2, 11], [TRUTH, 2, 11], [CLASH, 2], [RANGE, 2, 1, 2],
+    [CONTROL, 2, 15, 6, 1], [SHIFT, 2], [GAP, 2, 2], [GAP, 2, 0], [TICK, 4], [READ, 2, 5, 0], [READ, 2, 5, 1],
+    [SHOWN, 1], [CHANGED], [TURN, 2, 3, 5], [CHANGED], [CLEAR, 2], [LOTS], [UNPOINT, 2, 0], [FIT, 0], [LOT, 2, 0],
+    [FIT, 2], [CHANGED], [SHOWN, 0]]
 
 
 class Interface(unittest.TestCase):
@@ -38,9 +35,48 @@ class Interface(unittest.TestCase):
             10, 0, 2, 5, -1, 2, 3, 5, 0, 1, 3,
             1, 1])
 
+    def test_calls_13_to_24_one_behind_another(self):
+        calls = [
+            CHANGED, LOTS, LOT, 0, 9, POINT, 0, 5, -1, 2, 3, POINT, 0, 7, 4, 1, 1, CLASH, 0, RANGE, 0, 3, 4,
+            CONTROL, 0, 6, 2, 3, SHIFT, 0, GAP, 0, 0, TICK, 9, READ, 0, 1, 1, READ, 0, 4, 0, SHOWN, 0, TURN, 0, 2, -1,
+            CHANGED, CLEAR, 0, CHANGED, SHOWN, 1, LOTS]
+        # the line goes from -1 at 5 to 4 at 7; the shift is 2 - 3/2; 1 - 1/2 is 3/2 above -1: at 5 + 2 * (3/2) / 5.
+        # Turned it goes from -3 to 7, the control is 3, the shift 3 - 2: of 1 - 1 the dose is 5 + 2 * 3 / 10 once more
+        self.assertEqual(answers(calls), [
+            2, 0, 0,
+            18, 0, 0, 0, 0, 0, 0, 0, 0, 0, 0, 0, 0, 0, 0, 0, 0, 0, 0,
+            1, 0,
+            1, 0,
+            1, 1,
+            1, 0,
+            2, 6, 1000000,
+            1, 0,
+            3, 0, 1, 2,
+            3, 0, 1, 5,
+            1, 0,
+            6, 0, 0, 28, 5, 28, 5,
+            6, 1, 0, 7, 1, 7, 1,
+            9, 9, 0, 1, 1, 0, 28, 5, 28, 5,
+            1, 0,
+            3, 0, 1, 1,
+            1, 0,
+            4, 0, 2, 0, 1,
+            9, 9, 0, 4, 0, 0, 7, 1, 7, 1,
+            18, 0, 9, 1, 9, 2, 0, 0, 0, 0, 0, 0, 0, 0, 0, 0, 0, 0, 0])
+
     def test_any_call_may_come_first(self):
-        for call in ([POINT, 0, 1, 1, 1, 1], [FIT, 0], trial(0, [1, 2]), [TRUTH, 0, 1]):
-            self.assertEqual(answers(call), [1, -2], call)
+        kinds = {call[0]: call for call in ALL_CALLS}
+        self.assertEqual(sorted(kinds), list(range(25)))
+        first = {LOT: [1, 0], TICK: [1, 0], SHOWN: [1, -1], CHANGED: [2, 0, 0], LOTS: [18] + [0] * 18}
+        for number, call in kinds.items():
+            self.assertEqual(answers(call), first.get(number, [1, -2]), call)
+
+    def test_each_call_is_as_wide_as_told(self):
+        # what stands behind it is answered as a call of its own
+        for call in ALL_CALLS:
+            given = answers(call + [LOTS] + call + [TICK, 0, CHANGED])
+            self.assertEqual(len(split(given)), 5, call)
+            self.assertEqual([part[:1] for part in split(given)[1::2]], [[0], [-1]], call)
 
     def test_a_refused_trial_is_passed_over_whole(self):
         calls = trial(0, [LOT, 0, 5]) + trial(7, [3] * 60) + [LOT, 0, 5] + trial(0, []) + [POINTS, 0]

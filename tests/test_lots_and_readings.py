@@ -1,24 +1,33 @@
-"""Calls 0 to 3: lot, point, unpoint, points; the refusals of the lot that every call names."""
+"""Calls 0 to 3: lot, point, unpoint, points; the refusals of the lots that calls name."""
 
 import unittest
 
 from tests.helper import (
-    BLOCKS, DOSE, FIT, LAST_TIME, LEAST_WORD, LOT, MOST_WORD, POINT, POINTS, SQUARES, STEP, SUMS,
-    TRUTH, UNPOINT, VALUE, ask, ask_of, stocked, trial)
+    BLOCKS, CHANGED, CLASH, CLEAR, CONTROL, DOSE, FIT, GAP, LAST_TIME, LEAST_WORD, LOT, LOTS, MOST_WORD, POINT, POINTS,
+    RANGE, READ, SHIFT, SHOWN, SQUARES, STEP, SUMS, TICK, TRUTH, TURN, UNPOINT, VALUE, ask, ask_of, controlled, stocked,
+    trial)
+
+
+def calls_that_need_readings(n):
+    """One call of each kind that is refused by -5 where there are no readings, each with numbers that are let in."""
+    return [
+        [FIT, n], [BLOCKS, n], [SUMS, n], [SQUARES, n], trial(n, [1]), [VALUE, n, 1, 1], [DOSE, n, 1, 1], [STEP, n, 1],
+        [TRUTH, n, 1], [CLASH, n], [RANGE, n, 1, 1], [SHIFT, n], [GAP, n, n], [READ, n, 1, 0], [READ, n, 1, 1]]
 
 
 def calls_on(n):
-    """One call of each kind but lot, each with numbers that are let in."""
+    """One call of each kind that names a lot, but lot, each with numbers that are let in."""
     return [
-        [POINT, n, 1, 1, 1, 0], [UNPOINT, n, 0], [POINTS, n], [FIT, n], [BLOCKS, n], [SUMS, n],
-        [SQUARES, n], trial(n, [1]), [VALUE, n, 1, 1], [DOSE, n, 1, 1], [STEP, n, 1], [TRUTH, n, 1]]
+        [POINT, n, 1, 1, 1, 0], [UNPOINT, n, 0], [POINTS, n], [CONTROL, n, 1, 1, 1], [CLEAR, n],
+        [TURN, n, 1, 0]] + calls_that_need_readings(n)
 
 
 def wrong_calls_on(n):
     """Calls that would be refused by -3 too."""
     return [
         [POINT, n, -1, 1, 1, 0], [UNPOINT, n, -1], trial(n, [5000000]), [VALUE, n, 1, 0],
-        [DOSE, n, 1, 0], [STEP, n, -1], [TRUTH, n, -1]]
+        [DOSE, n, 1, 0], [STEP, n, -1], [TRUTH, n, -1], [RANGE, n, 1, 0], [CONTROL, n, -1, 1, 1],
+        [READ, n, 1, 2], [TURN, n, 0, 0]]
 
 
 class LotNumber(unittest.TestCase):
@@ -36,19 +45,19 @@ class LotNumber(unittest.TestCase):
     def test_0_and_3_are_let_in(self):
         for n in (0, 3):
             for call in calls_on(n):
-                answer = ask(stocked([(1, 1, 1, 0)], n) + [call])[-1]
+                answer = ask(stocked([(1, 1, 1, 0)], n) + controlled([(1, 1, 1)], n) + [call])[-1]
                 self.assertGreaterEqual(answer[0], 0, call)
 
     def test_a_lot_without_readings(self):
-        for call in calls_on(1)[3:]:
+        for call in calls_that_need_readings(1):
             self.assertEqual(ask([[LOT, 1, 5], call])[-1], [-5], call)
 
     def test_readings_of_another_lot_do_not_count(self):
-        for call in calls_on(1)[3:]:
+        for call in calls_that_need_readings(1):
             self.assertEqual(ask(stocked([(1, 1, 1, 0)], 0) + [[LOT, 1, 5], call])[-1], [-5], call)
 
     def test_a_lot_whose_readings_all_went(self):
-        for call in calls_on(0)[3:]:
+        for call in calls_that_need_readings(0):
             self.assertEqual(ask(stocked([(1, 1, 1, 0)]) + [[UNPOINT, 0, 0], call])[-1], [-5], call)
 
 
@@ -70,6 +79,22 @@ class MakeLot(unittest.TestCase):
     def test_a_lot_made_again_is_empty(self):
         calls = stocked([(1, 2, 3, 4)]) + [[LOT, 0, 5], [POINTS, 0], [FIT, 0], [POINT, 0, 9, 9, 9, 9]]
         self.assertEqual(ask(calls)[2:], [[0], [0, 0], [-5], [0]])
+
+    def test_a_lot_made_again_has_no_controls_and_another_time(self):
+        calls = stocked([(1, 2, 3, 4)]) + controlled([(1, 2, 3), (1, 5, 3)]) + [[LOTS], [LOT, 0, 5], [LOTS]]
+        told = ask(calls)[-3:]
+        self.assertEqual([told[0][2:6], told[1], told[2][2:6]], [[1, 100, 1, 2], [0], [1, 5, 0, 0]])
+
+    def test_results_stay_when_a_lot_is_made_again(self):
+        calls = stocked([(1, 2, 3, 4)]) + [[TICK, 3], [READ, 0, 2, 0], [LOT, 0, 5], [SHOWN, 0], [CHANGED]]
+        self.assertEqual(ask(calls)[-2:], [[3, 0, 2, 0, 0, 1, 1, 1, 1], [0, 1, 0]])
+
+    def test_now_stays_when_a_lot_is_made_again(self):
+        self.assertEqual(ask([[LOT, 0, 5], [TICK, 3], [LOT, 0, 9], [LOTS]])[-1][:4], [0, 3, 1, 9])
+
+    def test_a_refused_lot_leaves_controls_and_time(self):
+        calls = stocked([(1, 2, 3, 4)]) + controlled([(1, 2, 3)]) + [[LOT, 0, -1], [LOTS]]
+        self.assertEqual(ask(calls)[-1][2:6], [1, 100, 1, 1])
 
     def test_lots_are_apart(self):
         calls = stocked([(1, 2, 3, 4)], 1) + stocked([(5, 6, 7, 8)], 2) + [[LOT, 1, 3], [POINTS, 1], [POINTS, 2]]

@@ -6,6 +6,7 @@ from itertools import combinations_with_replacement
 from math import gcd
 
 from tests.helper import BLOCKS, FIT, SQUARES, SUMS, Numbers, ask, made_up_lots, pairs, stocked, trial
+from tests.model import best_values
 
 
 class Told:
@@ -28,27 +29,6 @@ class Told:
 def squares_of(readings, doses, values):
     at = dict(zip(doses, values))
     return sum(weight * (response - at[dose]) ** 2 for dose, response, weight, bound in readings)
-
-
-def best_values(readings, doses):
-    """By another way: the greatest, over all starts up to a dose, of the least mean from there to an end behind it."""
-    weights = [sum(w for d, r, w, b in readings if d == dose) for dose in doses]
-    totals = [sum(w * r for d, r, w, b in readings if d == dose) for dose in doses]
-    count = len(doses)
-    best = [None] * count
-    for start in range(count):
-        means = []
-        weight = total = 0
-        for end in range(start, count):
-            weight += weights[end]
-            total += totals[end]
-            means.append(Fraction(total, weight))
-        least = None
-        for end in range(count - 1, start - 1, -1):
-            mean = means[end - start]
-            least = mean if least is None else min(least, mean)
-            best[end] = least if best[end] is None else max(best[end], least)
-    return best
 
 
 def rising_values_near(values, numbers):
